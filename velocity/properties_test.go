@@ -62,7 +62,7 @@ func eachLargeDerby(t *testing.T, test func(r *rand.Rand, u unknown)) {
 		if e != api.OK {
 			t.Fatalf("the derby has the error %d: %+v", e, d)
 		}
-		if velocity.Check(d) == api.OK {
+		if raceError(d) == api.OK {
 			races++
 			call(t, r, u, test)
 		}
@@ -148,7 +148,7 @@ func answersOf(t *testing.T, d api.Derby) answers {
 	return all
 }
 
-// TestModelErrors: P7.1, a derby has an error just if some bird may have no velocity.
+// TestModelErrors: P1 and P7.1, a question has an error just if some bird may have no velocity, and Check never has it.
 func TestModelErrors(t *testing.T) {
 	r := rand.New(rand.NewSource(71))
 	seen := map[api.Errno]int{}
@@ -159,8 +159,11 @@ func TestModelErrors(t *testing.T) {
 			want = api.ErrHoming
 		}
 		seen[want]++
-		if e := velocity.Check(d); e != want {
-			t.Fatalf("Check = %d, not %d: %+v", e, want, d)
+		if e := raceError(d); e != want {
+			t.Fatalf("List has the error %d, not %d: %+v", e, want, d)
+		}
+		if e := velocity.Check(d); e != api.OK {
+			t.Fatalf("Check = %d: %+v", e, d)
 		}
 	}
 	for _, e := range []api.Errno{api.OK, api.ErrHoming} {
@@ -391,7 +394,7 @@ func TestEachStart(t *testing.T) {
 			fliers = append(fliers, flier{1 + loft, home, home})
 		}
 		d := flown(span(0, 1+r.Intn(8)), at(1, 2, 3, 4, 5), randomNights(r, 60), fliers...)
-		if velocity.Check(d) != api.OK {
+		if raceError(d) != api.OK {
 			continue
 		}
 		told := answersOf(t, d)
@@ -445,8 +448,8 @@ func TestJudged(t *testing.T) {
 			}
 			within := slices.DeleteFunc(slices.Clone(can), func(second int) bool { return !isIn(second, w) })
 			if len(within) == 0 {
-				if e := velocity.Check(judged); e != api.ErrHoming {
-					t.Errorf("Check of what Judge of %d, %v returns = %d", i, w, e)
+				if e := raceError(judged); e != api.ErrHoming {
+					t.Errorf("List of what Judge of %d, %v returns has the error %d", i, w, e)
 				}
 				continue
 			}
@@ -565,7 +568,7 @@ func TestNights(t *testing.T) {
 			}
 		}
 		second := u.Start.High + r.Intn(first-u.Start.High)
-		if darker, ok := withNight(u.Derby, second); ok && velocity.Check(darker) == api.OK {
+		if darker, ok := withNight(u.Derby, second); ok && raceError(darker) == api.OK {
 			counted++
 			for i, was := range told.flights {
 				if is := flight(t, darker, i); is != span(was.Low-1, was.High-1) {

@@ -303,13 +303,26 @@ func ask(d api.Derby, q question) map[string]outcome {
 	return out
 }
 
-// expectErrors checks the errors of all functions: others, but for those that are named; and the zero values.
+// checked returns what Check says of a derby for which a question about its homings has an error.
+func checked(e api.Errno) api.Errno {
+	switch e {
+	case api.ErrNone, api.ErrClocking, api.ErrHoming:
+		return api.OK
+	}
+	return e
+}
+
+// expectErrors checks the errors of all functions: others, but for those that are named, and for Check, which is given no
+// homings; and the zero values.
 func expectErrors(t *testing.T, name string, got map[string]outcome, others api.Errno, named map[string]api.Errno) {
 	t.Helper()
 	for function, o := range got {
 		want, ok := named[function]
 		if !ok {
 			want = others
+		}
+		if function == "Check" {
+			want = checked(others)
 		}
 		if o.e != want {
 			t.Errorf("%s: %s has the error %d, not %d", name, function, o.e, want)
@@ -387,7 +400,7 @@ func withJudge(errors map[string]api.Errno, homings int, judge api.Errno) map[st
 	return out
 }
 
-// TestNoRace: P1 and P7.1, ErrHoming, also of functions that ask for other homings, but not of Judge.
+// TestNoRace: P1 and P7.1, ErrHoming, also of functions that ask for other homings, but not of Check and Judge.
 func TestNoRace(t *testing.T) {
 	for _, q := range questions() {
 		for name, d := range noRace() {
@@ -403,7 +416,24 @@ func TestNoRace(t *testing.T) {
 	}
 }
 
-// TestJustARace: P7.1, derbies that are not quite those without a velocity.
+// raceError returns the error of a question about no homing of a derby.
+func raceError(d api.Derby) api.Errno {
+	_, e := velocity.List(d)
+	return e
+}
+
+// expectRace checks that neither Check nor a question has an error.
+func expectRace(t *testing.T, name string, d api.Derby) {
+	t.Helper()
+	if e := velocity.Check(d); e != api.OK {
+		t.Errorf("%s: Check = %d", name, e)
+	}
+	if e := raceError(d); e != api.OK {
+		t.Errorf("%s: List has the error %d", name, e)
+	}
+}
+
+// TestJustARace: P1, derbies that are not quite those without a velocity.
 func TestJustARace(t *testing.T) {
 	for name, d := range map[string]api.Derby{
 		"an empty loft at Point":     changed(func(d *api.Derby) { d.Map.Surveys[3] = inRow(3, 0, 0) }),
@@ -420,9 +450,7 @@ func TestJustARace(t *testing.T) {
 		"nights but for a second":    changed(func(d *api.Derby) { d.Nights = []api.Span{span(0, 199), span(201, lastSecond)} }),
 		"an idle clock has no truth": changed(func(d *api.Derby) { d.Timers = append(d.Timers, exact(0, 1)); noMoment(&d.Timers[2].Clock) }),
 	} {
-		if e := velocity.Check(d); e != api.OK {
-			t.Errorf("%s: Check = %d", name, e)
-		}
+		expectRace(t, name, d)
 	}
 }
 
@@ -476,13 +504,38 @@ func TestCheck(t *testing.T) {
 		}),
 		"judged": changed(func(d *api.Derby) { d.Homings[1].Judged = span(395, 399) }),
 	} {
-		if e := velocity.Check(d); e != api.OK {
-			t.Errorf("%s: Check = %d", name, e)
-		}
+		expectRace(t, name, d)
 	}
 	for name, d := range invalid() {
 		if e := velocity.Check(d); e != api.ErrDerby {
 			t.Errorf("%s: Check = %d", name, e)
+		}
+	}
+	for name, x := range unsound() {
+		if e := velocity.Check(x.d); e != x.e {
+			t.Errorf("%s: Check = %d, not %d", name, e, x.e)
+		}
+	}
+}
+
+// TestCheckAsksNoHomings: P7.1, Check has no error of valid derbies for which questions about homings have one.
+func TestCheckAsksNoHomings(t *testing.T) {
+	valid := unanswered()
+	for name, d := range noRace() {
+		valid["no race: "+name] = flawed{d, api.ErrHoming}
+	}
+	valid["one place"] = flawed{api.Derby{
+		Map:    api.Map{North: 1, Columns: 1, East: []int{1}, Lofts: 1},
+		Timers: []api.Timer{exact(0, 1)}, Homings: make([]api.Homing, 1),
+	}, api.ErrHoming}
+	valid["liberated last"] = flawed{changed(func(d *api.Derby) { d.Start = span(api.MaxSecond-api.MaxWatch, api.MaxSecond) }), api.ErrHoming}
+	valid["an empty loft nowhere"] = flawed{changed(func(d *api.Derby) { d.Map.Surveys = append(d.Map.Surveys, inRow(3, 4, 4)) }), api.ErrNone}
+	for name, x := range valid {
+		if e := velocity.Check(x.d); e != api.OK {
+			t.Errorf("%s: Check = %d", name, e)
+		}
+		if e := raceError(x.d); e != x.e {
+			t.Errorf("%s: List has the error %d, not %d", name, e, x.e)
 		}
 	}
 }
@@ -492,8 +545,11 @@ func TestLimits(t *testing.T) {
 	for _, f := range fields() {
 		for _, n := range []int{f.low, f.high} {
 			d := changed(func(d *api.Derby) { f.set(d, n) })
-			if e := velocity.Check(d); e != api.OK && e != api.ErrHoming {
+			if e := velocity.Check(d); e != api.OK {
 				t.Errorf("%s %d: Check = %d", f.name, n, e)
+			}
+			if e := raceError(d); e != api.OK && e != api.ErrHoming {
+				t.Errorf("%s %d: List has the error %d", f.name, n, e)
 			}
 			if _, e := velocity.Judge(d, 0, span(1, lastSecond)); e != api.OK {
 				t.Errorf("%s %d: Judge = %d", f.name, n, e)
@@ -919,7 +975,7 @@ func TestAnyNumber(t *testing.T) {
 		was := n.Int()
 		for _, wild := range []int64{math.MinInt, math.MinInt + 1, -1, 0, 1, was - 1, was + 1, math.MaxInt - 1, math.MaxInt} {
 			n.SetInt(wild)
-			e := velocity.Check(d)
+			e := raceError(d)
 			named := map[string]api.Errno{}
 			if got := ask(d, q)["Judge"]; got.e == api.OK || got.e == api.ErrDerby || got.e == api.ErrHoming {
 				named["Judge"] = got.e
