@@ -544,6 +544,9 @@ func TestWinner(t *testing.T) {
 		}
 		winners := firstIn(t, race, 0)
 		ties += len(winners) - 1
+		if pot := potOf(t, race, 0); pot.Left != 10*len(d.Homings) || pot.Rest != 0 {
+			t.Fatalf("the pool goes to nobody: %v of %+v", pot, d)
+		}
 		for bird, won := range wonIn(t, race, 0) {
 			if slices.Contains(winners, bird) != (won > 0) {
 				t.Fatalf("%d wins %d, and %v are the first ones", bird, won, winners)
